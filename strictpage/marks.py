@@ -9,8 +9,12 @@ MOST_DIGITS = 3
 
 NUMBER_ALONE = 0
 NUMBER_AND_PLACE = 1
+OPENING_FORM = 2
+CLOSING_FORM = 3
+TEXT_FORM = 4
 
 NO_REFUSAL = 0
+NOT_THERE = -2
 SAME_NAME = -22
 TOO_MUCH = -28
 NO_MARK = -71
@@ -27,12 +31,47 @@ SMALL_A = 97
 SMALL_Z = 122
 LAST_BYTE = 255
 
-NAMED_REFERENCES = ("&lt;", "&gt;", "&amp;", "&quot;")
+NAMED_REFERENCES = {60: "&lt;", 62: "&gt;", 38: "&amp;", 34: "&quot;"}
 NUMBER_REFERENCE = "&#"
 
 
-# The functions called end_of_.. give back the place right behind what stands at a place,
-# or None where no such thing stands there.
+class Attribute:
+    def __init__(self, name, value):
+        self.name = name
+        self.value = value
+
+
+def with_count(row):
+    return [len(row)] + row
+
+
+class Opening:
+    def __init__(self, name, attributes):
+        self.name = name
+        self.attributes = attributes
+
+    def has_same_names(self):
+        names = [tuple(attribute.name) for attribute in self.attributes]
+        return len(set(names)) < len(names)
+
+    def in_numbers(self):
+        return [OPENING_FORM] + with_count(self.name) + [len(self.attributes)]
+
+
+class Closing:
+    def __init__(self, name):
+        self.name = name
+
+    def in_numbers(self):
+        return [CLOSING_FORM]
+
+
+class Text:
+    def __init__(self, content):
+        self.content = content
+
+    def in_numbers(self):
+        return [TEXT_FORM] + with_count(self.content)
 
 
 def stands_at(t, at, word):
@@ -66,7 +105,18 @@ def end_of_blanks(t, at):
     return at
 
 
-def end_of_name(t, at):
+# What was read, and the place right behind it.
+class Piece:
+    def __init__(self, content, end):
+        self.content = content
+        self.end = end
+
+
+# The functions called read_.. give back what stands at a place, or None where no such
+# thing stands there.
+
+
+def read_name(t, at):
     if at >= len(t) or not is_small_letter(t[at]):
         return None
     end = at + 1
@@ -74,10 +124,10 @@ def end_of_name(t, at):
         end += 1
     if end - at > MOST_NAME_BYTES:
         return None
-    return end
+    return Piece(t[at:end], end)
 
 
-def end_of_number_reference(t, at):
+def read_number_reference(t, at):
     digits_at = at + len(NUMBER_REFERENCE)
     number = 0
     end = digits_at
@@ -86,42 +136,45 @@ def end_of_number_reference(t, at):
         end += 1
     if end == digits_at or not stands_at(t, end, ";") or not may_be_in_page(number):
         return None
-    return end + 1
+    return Piece(number, end + 1)
 
 
-def end_of_reference(t, at):
-    for word in NAMED_REFERENCES:
+def read_reference(t, at):
+    for byte, word in NAMED_REFERENCES.items():
         if stands_at(t, at, word):
-            return at + len(word)
+            return Piece(byte, at + len(word))
     if stands_at(t, at, NUMBER_REFERENCE):
-        return end_of_number_reference(t, at)
+        return read_number_reference(t, at)
     return None
 
 
-def end_of_character(t, at):
+def read_character(t, at):
     if t[at] == AMPERSAND:
-        return end_of_reference(t, at)
+        return read_reference(t, at)
     if t[at] == LESS_THAN or not may_be_in_page(t[at]):
         return None
-    return at + 1
+    return Piece(t[at], at + 1)
 
 
 # A wrong character spoils all of them: a text is not cut off ahead of it.
-def end_of_characters(t, at, stop):
+def read_characters(t, at, stop):
+    content = []
     while at < len(t) and t[at] != stop:
-        at = end_of_character(t, at)
-        if at is None:
+        character = read_character(t, at)
+        if character is None:
             return None
-    return at
+        content.append(character.content)
+        at = character.end
+    return Piece(content, at)
 
 
-def end_of_value(t, at):
+def read_value(t, at):
     if not stands_at(t, at, '="'):
         return None
-    end = end_of_characters(t, at + 2, QUOTE)
-    if end is None or end == len(t):
+    value = read_characters(t, at + 2, QUOTE)
+    if value is None or value.end == len(t):
         return None
-    return end + 1
+    return Piece(value.content, value.end + 1)
 
 
 def attribute_begins(t, at):
@@ -129,38 +182,58 @@ def attribute_begins(t, at):
     return at < name_at < len(t) and is_small_letter(t[name_at])
 
 
+def read_attribute(t, at):
+    name = read_name(t, end_of_blanks(t, at))
+    if name is None:
+        return None
+    value = read_value(t, name.end)
+    if value is None:
+        return None
+    return Piece(Attribute(name.content, value.content), value.end)
+
+
+def read_attributes(t, at):
+    attributes = []
+    while attribute_begins(t, at):
+        attribute = read_attribute(t, at)
+        if attribute is None:
+            return None
+        attributes.append(attribute.content)
+        at = attribute.end
+    return Piece(attributes, at)
+
+
 class Beginning:
-    def __init__(self, name, attribute_names, closed, end):
-        self.name = name
-        self.attribute_names = attribute_names
+    def __init__(self, opening, closed, end):
+        self.opening = opening
         self.closed = closed
         self.end = end
 
-    def has_same_names(self):
-        return len(set(self.attribute_names)) < len(self.attribute_names)
 
-
-def read_beginning(t, start):
-    at = end_of_name(t, start + 1)
-    if at is None:
+def read_beginning(t, at):
+    name = read_name(t, at + 1)
+    if name is None:
         return None
-    name = tuple(t[start + 1:at])
-    attribute_names = []
-    while attribute_begins(t, at):
-        name_at = end_of_blanks(t, at)
-        name_end = end_of_name(t, name_at)
-        if name_end is None:
-            return None
-        attribute_names.append(tuple(t[name_at:name_end]))
-        at = end_of_value(t, name_end)
-        if at is None:
-            return None
-    at = end_of_blanks(t, at)
-    if stands_at(t, at, "/>"):
-        return Beginning(name, attribute_names, True, at + 2)
-    if stands_at(t, at, ">"):
-        return Beginning(name, attribute_names, False, at + 1)
+    attributes = read_attributes(t, name.end)
+    if attributes is None:
+        return None
+    opening = Opening(name.content, attributes.content)
+    end = end_of_blanks(t, attributes.end)
+    if stands_at(t, end, "/>"):
+        return Beginning(opening, True, end + 2)
+    if stands_at(t, end, ">"):
+        return Beginning(opening, False, end + 1)
     return None
+
+
+def read_end(t, at):
+    name = read_name(t, at + 2)
+    if name is None:
+        return None
+    end = end_of_blanks(t, name.end)
+    if not stands_at(t, end, ">"):
+        return None
+    return Piece(Closing(name.content), end + 1)
 
 
 # The methods called take_.. give back a refusal's number, and then the place is still
@@ -169,47 +242,45 @@ class Reading:
     def __init__(self, t):
         self.t = t
         self.at = 0
-        self.mark_count = 0
+        self.marks = []
         self.open_names = []
 
-    def take_marks(self, how_many, end):
-        if self.mark_count + how_many > MOST_MARKS:
+    def take_marks(self, marks, end):
+        if len(self.marks) + len(marks) > MOST_MARKS:
             return TOO_MUCH
-        self.mark_count += how_many
+        self.marks.extend(marks)
         self.at = end
         return NO_REFUSAL
 
     def take_text(self):
-        end = end_of_characters(self.t, self.at, LESS_THAN)
-        if end is None:
+        text = read_characters(self.t, self.at, LESS_THAN)
+        if text is None:
             return NO_MARK
-        return self.take_marks(1, end)
+        return self.take_marks([Text(text.content)], text.end)
 
     def take_beginning(self):
         beginning = read_beginning(self.t, self.at)
         if beginning is None:
             return NO_MARK
-        if beginning.has_same_names():
+        opening = beginning.opening
+        if opening.has_same_names():
             return SAME_NAME
-        if len(beginning.attribute_names) > MOST_ATTRIBUTES or len(self.open_names) >= MOST_DEPTH:
+        if len(opening.attributes) > MOST_ATTRIBUTES or len(self.open_names) >= MOST_DEPTH:
             return TOO_MUCH
         if beginning.closed:
-            return self.take_marks(2, beginning.end)
-        self.open_names.append(beginning.name)
-        return self.take_marks(1, beginning.end)
+            return self.take_marks([opening, Closing(opening.name)], beginning.end)
+        self.open_names.append(opening.name)
+        return self.take_marks([opening], beginning.end)
 
     def take_end(self):
-        name_at = self.at + 2
-        name_end = end_of_name(self.t, name_at)
-        if name_end is None:
+        end = read_end(self.t, self.at)
+        if end is None:
             return NO_MARK
-        end = end_of_blanks(self.t, name_end)
-        if not stands_at(self.t, end, ">"):
-            return NO_MARK
-        if not self.open_names or self.open_names[-1] != tuple(self.t[name_at:name_end]):
+        closing = end.content
+        if not self.open_names or self.open_names[-1] != closing.name:
             return NO_MARK
         self.open_names.pop()
-        return self.take_marks(1, end + 1)
+        return self.take_marks([closing], end.end)
 
     def take_next(self):
         if self.t[self.at] != LESS_THAN:
@@ -218,15 +289,31 @@ class Reading:
             return self.take_end()
         return self.take_beginning()
 
+    def take_page(self):
+        if len(self.t) > MOST_BYTES:
+            return TOO_MUCH
+        while self.at < len(self.t):
+            refusal = self.take_next()
+            if refusal != NO_REFUSAL:
+                return refusal
+        if self.open_names:
+            return NO_MARK
+        return NO_REFUSAL
+
 
 def pg_read(t):
-    if len(t) > MOST_BYTES:
-        return [NUMBER_AND_PLACE, TOO_MUCH, 0]
     reading = Reading(t)
-    while reading.at < len(t):
-        refusal = reading.take_next()
-        if refusal != NO_REFUSAL:
-            return [NUMBER_AND_PLACE, refusal, reading.at]
-    if reading.open_names:
-        return [NUMBER_AND_PLACE, NO_MARK, len(t)]
-    return [NUMBER_ALONE, reading.mark_count]
+    refusal = reading.take_page()
+    if refusal != NO_REFUSAL:
+        return [NUMBER_AND_PLACE, refusal, reading.at]
+    return [NUMBER_ALONE, len(reading.marks)]
+
+
+def pg_mark(k, t):
+    reading = Reading(t)
+    refusal = reading.take_page()
+    if refusal != NO_REFUSAL:
+        return [NUMBER_ALONE, refusal]
+    if k >= len(reading.marks):
+        return [NUMBER_ALONE, NOT_THERE]
+    return reading.marks[k].in_numbers()

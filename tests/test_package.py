@@ -14,6 +14,9 @@ WORDS_NOT_USED = ("type", "typing", "typing_extensions", "enum", "Enum", "IntEnu
                   "abstractmethod")
 STATEMENTS = (ast.FunctionDef, ast.ClassDef, ast.Assign, ast.AugAssign, ast.If, ast.While, ast.For, ast.Return,
               ast.Break, ast.Continue, ast.Pass, ast.Raise, ast.Try, ast.Expr)
+METHODS = ("append", "clear", "copy", "count", "endswith", "extend", "find", "get", "index", "insert", "items", "join",
+           "keys", "pop", "remove", "replace", "reverse", "split", "startswith", "strip", "update", "values")
+VALUES_OF_PYTHON_S = {name for kind in (str, int, list, tuple, dict, set, bytes) for name in dir(kind)}
 NOT_USED = (ast.Div, ast.Set, ast.SetComp, ast.DictComp, ast.GeneratorExp, ast.NamedExpr, ast.Starred, ast.Lambda)
 
 
@@ -85,6 +88,34 @@ class Package(unittest.TestCase):
             for name in bound_names(tree):
                 self.assertRegex(name, r"^([A-Za-z][A-Za-z0-9_]*|__init__)$", path)
                 self.assertNotIn(name, not_bound, path)
+
+    def test_methods_and_values_of_objects(self):
+        own_methods = {node.name for where, each in self.nodes() if isinstance(each, ast.ClassDef)
+                       for node in each.body if isinstance(node, ast.FunctionDef)}
+        own_values = {node.attr for where, node in self.nodes()
+                      if isinstance(node, ast.Attribute) and isinstance(node.ctx, ast.Store)}
+        self.assertEqual(own_methods & own_values, set())
+        self.assertEqual((own_methods - {"__init__"} | own_values) & VALUES_OF_PYTHON_S, set())
+        for where, node in self.nodes():
+            if isinstance(node, ast.Attribute):
+                self.assertIn(node.attr, own_methods | own_values | set(METHODS), where)
+
+    def test_is_stands_beside_none_true_and_false_alone(self):
+        for where, node in self.nodes():
+            if isinstance(node, ast.Compare) and isinstance(node.ops[0], (ast.Is, ast.IsNot)):
+                self.assertIn(getattr(node.comparators[0], "value", 0), (None, True, False), where)
+
+    def test_a_list_or_dict_of_the_top_holds_none_and_is_not_changed(self):
+        for path, tree in self.trees.items():
+            tops = [node for node in tree.body if isinstance(node, ast.Assign)]
+            names = [node.targets[0].id for node in tops]
+            for node in tops:
+                inner = [each for each in ast.walk(node.value) if isinstance(each, (ast.List, ast.Dict))]
+                self.assertIn(inner, ([], [node.value]), path)
+            for node in ast.walk(tree):
+                if isinstance(node, (ast.Attribute, ast.Subscript)) and getattr(node.value, "id", None) in names:
+                    self.assertIsInstance(node.ctx, ast.Load, path)
+                    self.assertIn(getattr(node, "attr", "get"), ("get", "items", "keys", "values"), path)
 
     def test_top_of_a_file(self):
         for path, tree in self.trees.items():

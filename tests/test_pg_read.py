@@ -3,26 +3,8 @@
 import sys
 import unittest
 
+from pages import BYTES_OF_A_PAGE, BYTES_OF_NO_PAGE, MOST_BYTES, MOST_MARKS, attributes, closed, opened, row
 from strictpage.marks import pg_read
-
-MOST_BYTES = 16384
-MOST_MARKS = 2048
-
-
-def row(page):
-    return list(page.encode("latin-1"))
-
-
-def opened(depth):
-    return "<a>" * depth
-
-
-def closed(depth):
-    return "</a>" * depth
-
-
-def attributes(how_many):
-    return "".join(f' a{k}=""' for k in range(how_many))
 
 
 class PageCase(unittest.TestCase):
@@ -92,7 +74,7 @@ class OrdinaryPages(PageCase):
             self.assert_marks(f'<a {name}="x"/>', 2)
 
     def test_every_byte_that_may_be_in_a_page(self):
-        for byte in [10] + list(range(32, 256)):
+        for byte in BYTES_OF_A_PAGE:
             if byte not in row("<&"):
                 self.assertEqual(pg_read([byte]), [0, 1], byte)
                 self.assertEqual(pg_read([65, byte, 65]), [0, 1], byte)
@@ -100,7 +82,7 @@ class OrdinaryPages(PageCase):
                 self.assertEqual(pg_read(row('<a b="') + [byte] + row('"/>')), [0, 2], byte)
 
     def test_every_byte_by_its_number(self):
-        for byte in [10] + list(range(32, 256)):
+        for byte in BYTES_OF_A_PAGE:
             for digits in (str(byte), str(byte).zfill(3)):
                 self.assert_marks(f"&#{digits};", 1)
                 self.assert_marks(f"x&#{digits};y", 1)
@@ -185,14 +167,14 @@ class NoMark(PageCase):
             self.assert_refused("w&gt;" + character + "<a/>", -71, 0)
 
     def test_numbers_of_bytes_that_may_not_be_in_a_page(self):
-        for number in list(range(0, 10)) + list(range(11, 32)) + list(range(256, 1000)):
+        for number in BYTES_OF_NO_PAGE + list(range(256, 1000)):
             for digits in (str(number), str(number).zfill(3)):
                 self.assert_refused(f"&#{digits};", -71, 0)
                 self.assert_refused(f"<a/>x&#{digits};", -71, 4)
                 self.assert_refused(f'x<a b="&#{digits};"/>', -71, 1)
 
     def test_bytes_that_may_not_be_in_a_page(self):
-        for byte in list(range(0, 10)) + list(range(11, 32)):
+        for byte in BYTES_OF_NO_PAGE:
             sign = bytes([byte]).decode("latin-1")
             self.assert_refused(sign, -71, 0)
             self.assert_refused(f"text{sign}", -71, 0)
