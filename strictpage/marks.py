@@ -12,6 +12,7 @@ NUMBER_AND_PLACE = 1
 OPENING_FORM = 2
 CLOSING_FORM = 3
 TEXT_FORM = 4
+ATTRIBUTE_FORM = 5
 
 NO_REFUSAL = 0
 NOT_THERE = -2
@@ -35,14 +36,17 @@ NAMED_REFERENCES = {60: "&lt;", 62: "&gt;", 38: "&amp;", 34: "&quot;"}
 NUMBER_REFERENCE = "&#"
 
 
+def with_count(row):
+    return [len(row)] + row
+
+
 class Attribute:
     def __init__(self, name, value):
         self.name = name
         self.value = value
 
-
-def with_count(row):
-    return [len(row)] + row
+    def in_numbers(self):
+        return [ATTRIBUTE_FORM] + with_count(self.name) + with_count(self.value)
 
 
 class Opening:
@@ -317,3 +321,16 @@ def pg_mark(k, t):
     if k >= len(reading.marks):
         return [NUMBER_ALONE, NOT_THERE]
     return reading.marks[k].in_numbers()
+
+
+def pg_attr(k, j, t):
+    reading = Reading(t)
+    refusal = reading.take_page()
+    if refusal != NO_REFUSAL:
+        return [NUMBER_ALONE, refusal]
+    if k >= len(reading.marks):
+        return [NUMBER_ALONE, NOT_THERE]
+    mark = reading.marks[k]
+    if not isinstance(mark, Opening) or j >= len(mark.attributes):
+        return [NUMBER_ALONE, NOT_THERE]
+    return mark.attributes[j].in_numbers()

@@ -1,4 +1,6 @@
-"""Pages and rows of numbers that the tests of several calls share."""
+"""What the tests of several calls share: pages, rows of numbers, and what holds of every call."""
+
+import sys
 
 MOST_BYTES = 16384
 MOST_MARKS = 2048
@@ -44,3 +46,52 @@ RIGHT_PAGES = (
     "", "text", "<a/>", "<a></a>", '<a b="c">x&lt;<b/></a>', "&#10;", "x" * MOST_BYTES, "<a/>" * 1024,
     opened(32) + closed(32), "<a" + attributes(8) + "/>", '<a b="&quot;>" c=""\n>y\xff</a >z',
 )
+
+LONG_PAGES = (
+    opened(5000), opened(32) + closed(32), "<a/>" * 4096, "<a/>" * 1024, "x" * MOST_BYTES, "&#65;" * 3276,
+    "<a" + attributes(1500) + "/>", "<a" + " " * 16000 + "/>", "<" + "a" * 16000, '<a b="' + "&lt;" * 4000 + '"/>',
+)
+
+
+class KeepsNothing:
+    """Tests of what holds of every call, for a test case whose ask(t) makes its calls, and lists their answers."""
+
+    pages = RIGHT_PAGES + tuple(page for page, number in REFUSED_PAGES)
+
+    def test_the_row_is_the_same_after_the_call(self):
+        for page in self.pages:
+            t = row(page)
+            self.ask(t)
+            self.assertEqual(t, row(page))
+
+    def test_a_second_call_answers_the_same(self):
+        first = [self.ask(row(page)) for page in self.pages]
+        again = [self.ask(row(page)) for page in reversed(self.pages)]
+        self.assertEqual(first, again[::-1])
+
+    def test_what_was_given_back_is_not_kept(self):
+        for page in self.pages:
+            t = row(page)
+            answers = self.ask(t)
+            kept = [list(answer) for answer in answers]
+            for answer in answers:
+                answer.append(7)
+                answer[0] = 9
+            self.assertEqual(t, row(page))
+            self.assertEqual(self.ask(t), kept)
+
+    def test_lists_of_whole_numbers(self):
+        for page in self.pages:
+            for answer in self.ask(row(page)):
+                self.assertIs(type(answer), list)
+                self.assertEqual({type(number) for number in answer}, {int})
+
+    def test_no_deep_nesting_of_calls(self):
+        expected = [self.ask(row(page)) for page in LONG_PAGES]
+        limit = sys.getrecursionlimit()
+        sys.setrecursionlimit(150)
+        try:
+            answers = [self.ask(row(page)) for page in LONG_PAGES]
+        finally:
+            sys.setrecursionlimit(limit)
+        self.assertEqual(answers, expected)

@@ -5,7 +5,7 @@ import re
 import unittest
 
 from pages import row, with_count
-from strictpage.marks import pg_mark, pg_read
+from strictpage.marks import pg_attr, pg_mark, pg_read
 
 NAME = r"[a-z][a-z0-9-]{0,15}(?![a-z0-9-])"
 BYTE_NUMBER = r"(?:0?10|0?3[2-9]|0?[4-9][0-9]|1[0-9][0-9]|2[0-4][0-9]|25[0-5])"
@@ -84,6 +84,10 @@ class BesideTheGrammar(unittest.TestCase):
         for k in self.places(marks):
             expected = mark_in_numbers(marks[k]) if k < len(marks) else behind
             self.assertEqual(pg_mark(k, t), expected, (k, page[:200]))
+        for k in self.places(marks):
+            attributes = marks[k][2] if k < len(marks) and marks[k][0] == "opening" else []
+            expected = [[5] + with_count(name) + with_count(value) for name, value in attributes] + [behind]
+            self.assertEqual([pg_attr(k, j, t) for j in range(len(attributes) + 1)], expected, (k, page[:200]))
 
     def places(self, marks):
         """All of a short page's marks, the first and the last of a long one's, and the one behind."""
