@@ -13,6 +13,7 @@ OPENING_FORM = 2
 CLOSING_FORM = 3
 TEXT_FORM = 4
 ATTRIBUTE_FORM = 5
+PAGE_FORM = 6
 
 NO_REFUSAL = 0
 NOT_THERE = -2
@@ -40,6 +41,23 @@ def with_count(row):
     return [len(row)] + row
 
 
+def signs(word):
+    return [ord(sign) for sign in word]
+
+
+# The methods called plain give back what is written in the one form of a page.
+
+
+def plain_characters(content):
+    row = []
+    for byte in content:
+        if byte in NAMED_REFERENCES:
+            row.extend(signs(NAMED_REFERENCES[byte]))
+        else:
+            row.append(byte)
+    return row
+
+
 class Attribute:
     def __init__(self, name, value):
         self.name = name
@@ -47,6 +65,9 @@ class Attribute:
 
     def in_numbers(self):
         return [ATTRIBUTE_FORM] + with_count(self.name) + with_count(self.value)
+
+    def plain(self):
+        return signs(" ") + self.name + signs('="') + plain_characters(self.value) + signs('"')
 
 
 class Opening:
@@ -61,6 +82,12 @@ class Opening:
     def in_numbers(self):
         return [OPENING_FORM] + with_count(self.name) + [len(self.attributes)]
 
+    def plain(self):
+        row = signs("<") + self.name
+        for attribute in self.attributes:
+            row.extend(attribute.plain())
+        return row + signs(">")
+
 
 class Closing:
     def __init__(self, name):
@@ -68,6 +95,9 @@ class Closing:
 
     def in_numbers(self):
         return [CLOSING_FORM]
+
+    def plain(self):
+        return signs("</") + self.name + signs(">")
 
 
 class Text:
@@ -77,9 +107,12 @@ class Text:
     def in_numbers(self):
         return [TEXT_FORM] + with_count(self.content)
 
+    def plain(self):
+        return plain_characters(self.content)
+
 
 def stands_at(t, at, word):
-    return t[at:at + len(word)] == [ord(sign) for sign in word]
+    return t[at:at + len(word)] == signs(word)
 
 
 def may_be_in_page(number):
@@ -334,3 +367,14 @@ def pg_attr(k, j, t):
     if not isinstance(mark, Opening) or j >= len(mark.attributes):
         return [NUMBER_ALONE, NOT_THERE]
     return mark.attributes[j].in_numbers()
+
+
+def pg_plain(t):
+    reading = Reading(t)
+    refusal = reading.take_page()
+    if refusal != NO_REFUSAL:
+        return [NUMBER_ALONE, refusal]
+    page = []
+    for mark in reading.marks:
+        page.extend(mark.plain())
+    return [PAGE_FORM] + with_count(page)

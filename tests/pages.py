@@ -1,6 +1,7 @@
 """What the tests of several calls share: pages, rows of numbers, and what holds of every call."""
 
 import sys
+import unittest
 
 MOST_BYTES = 16384
 MOST_MARKS = 2048
@@ -29,6 +30,33 @@ def with_count(page):
     return [len(page)] + row(page)
 
 
+# Marks in the tests are ("text", content), ("opening", name, [(name, value), ..]) and ("closing", name).
+
+
+def mark_in_numbers(mark):
+    if mark[0] == "text":
+        return [4] + with_count(mark[1])
+    if mark[0] == "closing":
+        return [3]
+    return [2] + with_count(mark[1]) + [len(mark[2])]
+
+
+def plain_characters(content):
+    return content.replace("&", "&amp;").replace("<", "&lt;").replace(">", "&gt;").replace('"', "&quot;")
+
+
+def plain_mark(mark):
+    if mark[0] == "text":
+        return plain_characters(mark[1])
+    if mark[0] == "closing":
+        return f"</{mark[1]}>"
+    return "<" + mark[1] + "".join(f' {name}="{plain_characters(value)}"' for name, value in mark[2]) + ">"
+
+
+def plain_page(marks):
+    return "".join(plain_mark(mark) for mark in marks)
+
+
 # Every way in which pg_read refuses, with the number that is then answered.
 REFUSED_PAGES = (
     ("<", -71), ("x&", -71), ("&;", -71), ("&#0;", -71), ("&#256;", -71), ("\x00", -71), ("x\t", -71),
@@ -53,8 +81,20 @@ LONG_PAGES = (
 )
 
 
+class PageCase(unittest.TestCase):
+    """Tells two rows that differ by their fronts: laying long ones beside each other takes unittest many minutes."""
+
+    def setUp(self):
+        self.addTypeEqualityFunc(list, self.assert_same_row)
+
+    def assert_same_row(self, answer, expected, msg=None):
+        if answer != expected:
+            at = [one == other for one, other in zip(answer, expected)] + [False]
+            self.fail(f"{answer!r:.200} is not {expected!r:.200}, from {at.index(False)} on: {msg!r:.300}")
+
+
 class KeepsNothing:
-    """Tests of what holds of every call, for a test case whose ask(t) makes its calls, and lists their answers."""
+    """Tests of what holds of every call, for a page case whose ask(t) makes its calls, and lists their answers."""
 
     pages = RIGHT_PAGES + tuple(page for page, number in REFUSED_PAGES)
 

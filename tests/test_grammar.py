@@ -4,8 +4,8 @@ import itertools
 import re
 import unittest
 
-from pages import row, with_count
-from strictpage.marks import pg_attr, pg_mark, pg_read
+from pages import PageCase, mark_in_numbers, plain_page, row, with_count
+from strictpage.marks import pg_attr, pg_mark, pg_plain, pg_read
 
 NAME = r"[a-z][a-z0-9-]{0,15}(?![a-z0-9-])"
 BYTE_NUMBER = r"(?:0?10|0?3[2-9]|0?[4-9][0-9]|1[0-9][0-9]|2[0-4][0-9]|25[0-5])"
@@ -67,20 +67,14 @@ def second_reading(page):
     return ([1, -71, at], []) if names else ([0, len(marks)], marks)
 
 
-def mark_in_numbers(mark):
-    if mark[0] == "text":
-        return [4] + with_count(mark[1])
-    if mark[0] == "closing":
-        return [3]
-    return [2] + with_count(mark[1]) + [len(mark[2])]
-
-
-class BesideTheGrammar(unittest.TestCase):
+class BesideTheGrammar(PageCase):
     def assert_same(self, page):
         t = row(page)
         answer, marks = second_reading(page)
         self.assertEqual(pg_read(t), answer, repr(page[:200]))
-        behind = [0, answer[1]] if answer[0] == 1 else [0, -2]
+        refused = answer[0] == 1
+        self.assertEqual(pg_plain(t), [0, answer[1]] if refused else [6] + with_count(plain_page(marks)))
+        behind = [0, answer[1]] if refused else [0, -2]
         for k in self.places(marks):
             expected = mark_in_numbers(marks[k]) if k < len(marks) else behind
             self.assertEqual(pg_mark(k, t), expected, (k, page[:200]))

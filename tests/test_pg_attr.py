@@ -2,8 +2,8 @@
 
 import unittest
 
-from pages import (BYTES_OF_A_PAGE, FAR_ABOVE, MOST_BYTES, REFUSED_PAGES, RIGHT_PAGES, KeepsNothing, attributes, closed,
-                   opened, row, with_count)
+from pages import (BYTES_OF_A_PAGE, FAR_ABOVE, MOST_BYTES, REFUSED_PAGES, RIGHT_PAGES, KeepsNothing, PageCase,
+                   attributes, closed, opened, row, with_count)
 from strictpage.marks import pg_attr, pg_mark, pg_read
 
 NOT_THERE = [0, -2]
@@ -13,7 +13,7 @@ def attribute(name, value):
     return [5] + with_count(name) + with_count(value)
 
 
-class AttributeCase(unittest.TestCase):
+class AttributeCase(PageCase):
     def assert_attribute(self, page, k, j, answer):
         self.assertEqual(pg_attr(k, j, row(page)), answer, (k, j, page[:200]))
 
@@ -227,7 +227,7 @@ class EdgesAndCorners(AttributeCase):
         self.assert_attribute('< a b="c"></a>', 0, 0, [0, -71])
 
 
-class WhatIsHandedInAndGivenBack(KeepsNothing, unittest.TestCase):
+class WhatIsHandedInAndGivenBack(KeepsNothing, PageCase):
     def ask(self, t):
         return [pg_attr(k, j, t) for k, j in ((0, 0), (0, 1), (1, 0), (FAR_ABOVE, FAR_ABOVE))]
 

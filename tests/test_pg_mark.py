@@ -2,8 +2,8 @@
 
 import unittest
 
-from pages import (BYTES_OF_A_PAGE, FAR_ABOVE, MOST_BYTES, REFUSED_PAGES, RIGHT_PAGES, KeepsNothing, attributes, closed,
-                   opened, row, with_count)
+from pages import (BYTES_OF_A_PAGE, FAR_ABOVE, MOST_BYTES, REFUSED_PAGES, RIGHT_PAGES, KeepsNothing, PageCase,
+                   attributes, closed, opened, row, with_count)
 from strictpage.marks import pg_mark, pg_read
 
 CLOSING = [3]
@@ -18,7 +18,7 @@ def text(content):
     return [4] + with_count(content)
 
 
-class MarkCase(unittest.TestCase):
+class MarkCase(PageCase):
     def assert_mark(self, page, k, mark):
         self.assertEqual(pg_mark(k, row(page)), mark, (k, page[:200]))
 
@@ -219,7 +219,7 @@ class EdgesAndCorners(MarkCase):
         self.assert_mark("< a></a>", 0, [0, -71])
 
 
-class WhatIsHandedInAndGivenBack(KeepsNothing, unittest.TestCase):
+class WhatIsHandedInAndGivenBack(KeepsNothing, PageCase):
     def ask(self, t):
         return [pg_mark(k, t) for k in (0, 1, 2, FAR_ABOVE)]
 

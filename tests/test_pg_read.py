@@ -2,12 +2,12 @@
 
 import unittest
 
-from pages import (BYTES_OF_A_PAGE, BYTES_OF_NO_PAGE, MOST_BYTES, MOST_MARKS, KeepsNothing, attributes, closed, opened,
-                   row)
+from pages import (BYTES_OF_A_PAGE, BYTES_OF_NO_PAGE, MOST_BYTES, MOST_MARKS, KeepsNothing, PageCase, attributes,
+                   closed, opened, row)
 from strictpage.marks import pg_read
 
 
-class PageCase(unittest.TestCase):
+class ReadCase(PageCase):
     def assert_marks(self, page, how_many):
         self.assertEqual(pg_read(row(page)), [0, how_many], repr(page[:200]))
 
@@ -15,7 +15,7 @@ class PageCase(unittest.TestCase):
         self.assertEqual(pg_read(row(page)), [1, number, at], repr(page[:200]))
 
 
-class OrdinaryPages(PageCase):
+class OrdinaryPages(ReadCase):
     def test_texts(self):
         self.assert_marks("hello", 1)
         self.assert_marks(" ", 1)
@@ -95,7 +95,7 @@ class OrdinaryPages(PageCase):
         self.assert_marks('<a b="&#34;&quot;"/>', 2)
 
 
-class NoMark(PageCase):
+class NoMark(ReadCase):
     def assert_no_mark(self, piece):
         """Refused where it begins, at the page's front, behind marks, and within an element."""
         self.assert_refused(piece, -71, 0)
@@ -197,7 +197,7 @@ class NoMark(PageCase):
         self.assert_refused(opened(32), -71, 96)
 
 
-class SameName(PageCase):
+class SameName(ReadCase):
     def test_two_attributes_of_one_name(self):
         self.assert_refused('<a b="" b=""/>', -22, 0)
         self.assert_refused('<a b="1" b="2"></a>', -22, 0)
@@ -219,7 +219,7 @@ class SameName(PageCase):
         self.assert_refused(f'<a {name}p="" {name}p=""/>', -22, 0)
 
 
-class TooMuch(PageCase):
+class TooMuch(ReadCase):
     def test_bytes(self):
         self.assert_marks("x" * MOST_BYTES, 1)
         self.assert_refused("x" * (MOST_BYTES + 1), -28, 0)
@@ -264,7 +264,7 @@ class TooMuch(PageCase):
         self.assert_marks(opened(32) + closed(1) + "<a/>" + "<a></a>" + closed(31), 68)
 
 
-class MostMarks(PageCase):
+class MostMarks(ReadCase):
     def test_2048_marks(self):
         self.assert_marks("<a/>" * 1024, 2048)
         self.assert_marks("<a></a>" * 1024, 2048)
@@ -300,7 +300,7 @@ class MostMarks(PageCase):
         self.assert_refused(front + "<a>", -71, len(front) + 3)
 
 
-class WhichComesFirst(PageCase):
+class WhichComesFirst(ReadCase):
     def test_too_many_bytes_before_all_else(self):
         for piece in ("<", "&", "</a>", '<a b="" b="">', "<a>", "\x00", "<a/>" * 1025, opened(33)):
             self.assert_refused(piece + "x" * MOST_BYTES, -28, 0)
@@ -358,7 +358,7 @@ class WhichComesFirst(PageCase):
         self.assert_refused("<a/>" * 1024 + "x<", -28, 4096)
 
 
-class Corners(PageCase):
+class Corners(ReadCase):
     def test_no_bytes(self):
         self.assertEqual(pg_read([]), [0, 0])
 
@@ -418,7 +418,7 @@ class Corners(PageCase):
         self.assert_refused("<\na></a>", -71, 0)
 
 
-class WhatIsHandedInAndGivenBack(KeepsNothing, unittest.TestCase):
+class WhatIsHandedInAndGivenBack(KeepsNothing, PageCase):
     def ask(self, t):
         return [pg_read(t)]
 
